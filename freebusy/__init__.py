@@ -1,0 +1,1 @@
+"""Free and busy: when people are free, by their hours of work and by what's busy."""
