@@ -13,6 +13,29 @@ def put_behind(stretches, begin, end):
         stretches.append((begin, end))
 
 
+# The stretches handed in may lie over one another, in any order.
+def joined(stretches):
+    found = []
+    reach = 0
+    for begin, end in sorted(stretches):
+        put_behind(found, max(begin, reach), end)
+        reach = max(reach, end)
+    return found
+
+
+def both(one, other):
+    found = []
+    i = 0
+    j = 0
+    while i < len(one) and j < len(other):
+        put_behind(found, max(one[i][0], other[j][0]), min(one[i][1], other[j][1]))
+        if one[i][1] < other[j][1]:
+            i += 1
+        else:
+            j += 1
+    return found
+
+
 # What's taken out is not empty, so that the two parts left of a stretch don't touch.
 def without(stretches, begin, end):
     left = []
